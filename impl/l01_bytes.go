@@ -5,6 +5,8 @@ const (
 
 	// maxWidth is the largest number of bytes whose every value fits into an int64.
 	maxWidth = 7
+
+	keySize = 32
 )
 
 func HexOf(s string) string {
@@ -77,4 +79,24 @@ func bigEndian(n uint64, k int) string {
 		out[i] = byte(n >> (8 * (k - 1 - i)))
 	}
 	return string(out)
+}
+
+func littleEndian(n uint64, k int) string {
+	out := make([]byte, k)
+	for i := range out {
+		out[i] = byte(n >> (8 * i))
+	}
+	return string(out)
+}
+
+func littleNum(s string) uint64 {
+	n := uint64(0)
+	for i := 0; i < len(s); i++ {
+		n |= uint64(s[i]) << (8 * i)
+	}
+	return n
+}
+
+func isKey(s string) bool {
+	return len(s) == keySize
 }
