@@ -100,3 +100,12 @@ func littleNum(s string) uint64 {
 func isKey(s string) bool {
 	return len(s) == keySize
 }
+
+func allKeys(list ...string) bool {
+	for _, key := range list {
+		if !isKey(key) {
+			return false
+		}
+	}
+	return true
+}
