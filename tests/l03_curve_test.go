@@ -229,7 +229,8 @@ func realDh(t *testing.T, key string, pub string) string {
 	}
 	out, err := a.ECDH(b)
 	if err != nil {
-		t.Fatal(err)
+		// The library refuses the result 0, which keys of small order have.
+		return zeros(32)
 	}
 	return string(out)
 }
