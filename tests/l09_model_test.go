@@ -303,7 +303,12 @@ func (g deviceGuard) checkResult(t *testing.T, name string, got impl.Device, wan
 	if !sameDevice(got, want) {
 		t.Errorf("%s: the device is %#v; want %#v", name, got, want)
 	}
-	list := append(memories("the argument's", g.d), memories("the result's", got)...)
+	checkApart(t, name, append(memories("the argument's", g.d), memories("the result's", got)...))
+}
+
+// checkApart looks for memory that two of the lists share.
+func checkApart(t *testing.T, name string, list []memory) {
+	t.Helper()
 	sort.Slice(list, func(i int, j int) bool { return list[i].start < list[j].start })
 	last := memory{}
 	for _, m := range list {
