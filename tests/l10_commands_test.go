@@ -228,15 +228,21 @@ func TestReadCmdRejects(t *testing.T) {
 	}
 }
 
-// Numbers with more digits than are read, and beyond the range of the integers.
-func TestReadCmdLongNumbers(t *testing.T) {
+// longNumbers have more digits than 999; some have more than are read, or are beyond the range of the integers.
+func longNumbers() []string {
+	out := []string{}
 	for _, digits := range []int{4, 15, 16, 17, 18, 19, 20, 21, 40, 1000} {
 		for _, n := range []string{strings.Repeat("9", digits), strings.Repeat("0", digits), strings.Repeat("0", digits-1) + "1", "1" + strings.Repeat("0", digits-1)} {
-			for _, sign := range []string{"", "-", "+"} {
-				for _, s := range []string{"take N", "drop N", "copy N", "device N", "bend N 0", "bend 0 N", "send N 0 x", "send 1 N x"} {
-					checkReadCmd(t, strings.Replace(s, "N", sign+n, 1), impl.Cmd{}, false)
-				}
-			}
+			out = append(out, n, "-"+n, "+"+n)
+		}
+	}
+	return out
+}
+
+func TestReadCmdLongNumbers(t *testing.T) {
+	for _, n := range longNumbers() {
+		for _, s := range []string{"take N", "drop N", "copy N", "device N", "bend N 0", "bend 0 N", "send N 0 x", "send 1 N x"} {
+			checkReadCmd(t, strings.Replace(s, "N", n, 1), impl.Cmd{}, false)
 		}
 	}
 	// These are 0, 1 and 5 modulo 2^64 or 2^32.
@@ -252,22 +258,26 @@ func TestReadCmdLongNumbers(t *testing.T) {
 	checkReadCmd(t, strings.Repeat(" ", 100000), impl.Cmd{}, false)
 }
 
-// Every text that differs from that of a command by one byte more, less or other.
-func TestReadCmdNeighbours(t *testing.T) {
+// checkNeighbours calls check with the text, its parts, and every text that differs from it by one byte more, less or other.
+func checkNeighbours(s string, check func(string)) {
 	bytes := []string{" ", "0", "1", "2", "4", "5", "9", "+", "-", "x", "e", ".", "_", "\t", "\n", "\x00", "~", "\x7f", "\xff", "é"}
-	for _, s := range []string{"device 0", "device 1", "send 1 0 x", "send 4 1 hi", "take 0", "take 99", "take 999", "drop 10", "copy 7", "bend 0 0", "bend 12 999", "send 2 0 0 0", "bend 1 1 1", "take 1 "} {
-		checkText(t, s)
-		for i := range s {
-			checkText(t, s[:i])
-			checkText(t, s[i:])
-			checkText(t, s[:i]+s[i+1:])
-			for _, b := range bytes {
-				checkText(t, s[:i]+b+s[i:])
-				checkText(t, s[:i]+b+s[i+1:])
-			}
-		}
+	check(s)
+	for i := range s {
+		check(s[:i])
+		check(s[i:])
+		check(s[:i] + s[i+1:])
 		for _, b := range bytes {
-			checkText(t, s+b)
+			check(s[:i] + b + s[i:])
+			check(s[:i] + b + s[i+1:])
 		}
+	}
+	for _, b := range bytes {
+		check(s + b)
+	}
+}
+
+func TestReadCmdNeighbours(t *testing.T) {
+	for _, s := range []string{"device 0", "device 1", "send 1 0 x", "send 4 1 hi", "take 0", "take 99", "take 999", "drop 10", "copy 7", "bend 0 0", "bend 12 999", "send 2 0 0 0", "bend 1 1 1", "take 1 "} {
+		checkNeighbours(s, func(x string) { checkText(t, x) })
 	}
 }

@@ -47,13 +47,21 @@ func realPlay(t *testing.T, list []impl.Cmd) (impl.World, []impl.Answer) {
 	}
 	w, answers := impl.World{}, []impl.Answer{}
 	for i, c := range list {
-		next, answer := realStep(t, copiedWorld(w), c, 1000*int64(i)+1000)
-		if answer.Code == impl.PwOk || c.Kind == impl.CmTake {
-			w = next
-		}
+		next, answer := realNext(t, w, c, i)
+		w = next
 		answers = append(answers, answer)
 	}
 	return w, answers
+}
+
+// realNext performs the command with the index i. It leaves the world that is passed as it is.
+func realNext(t *testing.T, w impl.World, c impl.Cmd, i int) (impl.World, impl.Answer) {
+	t.Helper()
+	next, answer := realStep(t, copiedWorld(w), c, 1000*int64(i)+1000)
+	if answer.Code == impl.PwOk || c.Kind == impl.CmTake {
+		return next, answer
+	}
+	return w, answer
 }
 
 func realStep(t *testing.T, w impl.World, c impl.Cmd, seed int64) (impl.World, impl.Answer) {

@@ -136,8 +136,9 @@ func checkGoesOn(t *testing.T, j journal) {
 	}
 }
 
-func then(list []impl.Act, more ...impl.Act) []impl.Act {
-	return append(append([]impl.Act{}, list...), more...)
+// then is the list with more behind it, in new memory.
+func then[T any](list []T, more ...T) []T {
+	return append(append([]T{}, list...), more...)
 }
 
 // someJournals are synced, unsynced, torn, torn with a recovery that was cut off, and without a command.
